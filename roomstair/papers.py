@@ -1,0 +1,37 @@
+"""Papers tell an answer and what shows it; denials are papers that say no."""
+
+from roomstair.checks import is_list
+
+
+def fixed(value):
+    """The value with tuples in the place of lists, all the way in."""
+    if is_list(value):
+        return tuple([fixed(item) for item in value])
+    return value
+
+
+class Paper:
+    """A paper: true."""
+
+    def __init__(self, word, *parts):
+        self.word = word
+        self.parts = fixed(parts)
+
+    def __eq__(self, other):
+        return type(self) is type(other) and self.word == other.word and self.parts == other.parts
+
+    def __bool__(self):
+        return True
+
+
+class Denial(Paper):
+    """A paper that says no: false."""
+
+    def __init__(self, word, *parts):
+        Paper.__init__(self, word, *parts)
+
+    def __eq__(self, other):
+        return type(self) is type(other) and self.word == other.word and self.parts == other.parts
+
+    def __bool__(self):
+        return False
