@@ -2,8 +2,20 @@
 
 import unittest
 
+
+class Alike:
+    """A value that says of itself that it is equal to any other one."""
+
+    def __eq__(self, other):
+        return True
+
+    def __hash__(self):
+        return 0
+
+
 # Nothing of this is an integer, a string, a list or a tuple.
-STRANGE = (None, True, False, 1.0, float("nan"), b"+", {}, {"a": [1]}, {0: "+"}, {1}, range(2), object(), int, len)
+STRANGE = (None, True, False, 1.0, float("nan"), b"+", {}, {"a": [1]}, {0: "+"}, {1}, range(2), object(), int, len,
+           Alike())
 # No lists or tuples.
 NO_LISTS = STRANGE + (0, 1, -1, 10**99, "", "+", "0", "+0", "1 2")
 # No integers.

@@ -9,9 +9,19 @@ FUNCTIONS = {
     "papers": ["fixed(value)"],
     "rows": ["is_row(value)", "opposite(row)", "size_of(row)", "first_sign(row)", "waves(row)", "sides_of(row)",
              "is_below(one, other)", "row_of(places, lefts, rights)", "rows_of(places)"],
+    "chains": ["is_chain(value)", "is_full(value)", "half_of(chain)", "steps_of(chain)", "opposite_chain(chain)",
+               "chain_of(places, steps)", "full_chains(places)"],
+    "tables": ["label_of(labelling, row)", "labels_of(labelling, chain)", "wave_table(places)", "place_table(places)",
+               "size_table(places)", "opposed_pair(table)", "amounts_of(table)"],
+    "turns": ["by_turns(labels)", "turns_of(labelling, chain)", "clashes(labelling, chain)", "is_climb(labelling, chain)"],
+    "doors": ["doors_of(labelling, chain)", "beyond(chain, index)"],
+    "waves": ["most_waves(teams)"],
 }
 CLASSES = {
     "papers": {"Paper(word, *parts)": ["__init__", "__eq__"], "Denial(word, *parts)": ["__init__", "__eq__"]},
+    "tables": {"Table(places, labels)": ["__init__", "__eq__", "__str__", "read"]},
+    "teams": {"Teams(people, teams)": ["__init__", "__eq__"]},
+    "fillings": {"Filling(teams, rooms)": ["__init__", "__eq__"]},
 }
 
 
@@ -35,6 +45,9 @@ class Interface(unittest.TestCase):
                 self.assertEqual(made.__module__, held.__name__)
                 for method in methods:
                     self.assertIn(method, vars(made), each)
+
+    def test_read_takes_a_text(self):
+        self.assertEqual(str(inspect.signature(importlib.import_module("roomstair.tables").Table.read)), "(text)")
 
 
 if __name__ == "__main__":
