@@ -1,11 +1,11 @@
 """The doors of d-chains, and the d-chains beyond these."""
 
-from roomstair.chains import chain_of, half_of, steps_of, want_full
+from roomstair.chains import half_of, want_full
 from roomstair.checks import is_within
 from roomstair.errors import BadNumber, Misfit
 from roomstair.rows import OPPOSITES
 from roomstair.tables import labels_of, want_labelling
-from roomstair.turns import by_turns, clash_among
+from roomstair.turns import clash_among, turns_among
 
 
 def doors_of(labelling, chain):
@@ -18,18 +18,21 @@ def doors_of(labelling, chain):
     if len(told) == 1:
         return ()
     half = half_of(chain)
-    return tuple([at for at in range(len(told)) if by_turns(told[:at] + told[at + 1:]) == half])
+    return tuple([at for at in range(len(told)) if turns_among(told[:at] + told[at + 1:]) == half])
 
 
-def steps_beyond(steps, index):
-    """The steps of the d-chain beyond the one of these steps, None if there is none."""
-    if index < len(steps) - 1:
-        return steps[:index] + (steps[index + 1], steps[index]) + steps[index + 2:]
-    place, sign = steps[index]
-    # Any other sign at this place would be another half: what is left is down of the d-chain.
-    if place == index:
+def row_beyond(chain, index):
+    """The row in the place of the one with this index in the d-chain beyond; None if there is none."""
+    row = chain[index]
+    lower = chain[index - 1] if index > 0 else "0" * len(row)
+    if index < len(chain) - 1:
+        # Of the two places that come between its neighbours, the other one comes first.
+        upper = chain[index + 1]
+        return "".join([above if here == below else below for below, here, above in zip(lower, row, upper)])
+    # Any other sign at the place d - 1 would be another half: what is left is down of the d-chain.
+    if lower[index] == "0":
         return None
-    return steps[:index] + ((place, OPPOSITES[sign]),)
+    return "".join([here if here == below else OPPOSITES[here] for below, here in zip(lower, row)])
 
 
 def beyond(chain, index):
@@ -39,5 +42,5 @@ def beyond(chain, index):
         raise BadNumber("index")
     if len(chain) == 1:
         raise Misfit("chain")
-    steps = steps_beyond(steps_of(chain), index)
-    return None if steps is None else chain_of(len(chain[0]), steps)
+    row = row_beyond(chain, index)
+    return None if row is None else (*chain[:index], row, *chain[index + 1:])

@@ -27,6 +27,11 @@ def integer_in(item):
     return number
 
 
+def numbers_told(numbers):
+    """Integers as the items of a text."""
+    return " ".join([str(number) for number in numbers])
+
+
 def want_integer(items, at, least, most):
     """The integer from least to most that stands at an index."""
     # The items ahead stand: so at is the number of items if this one is missing.

@@ -17,14 +17,19 @@ def is_turn(lesser, label):
     return abs(lesser) < abs(label) and (lesser > 0) != (label > 0)
 
 
+def turns_among(told):
+    """The sign from which labels, one at least and none lacking, go by turns, None if they do not."""
+    ordered = sorted(told, key=abs)
+    if not all([is_turn(ordered[at - 1], ordered[at]) for at in range(1, len(ordered))]):
+        return None
+    return "+" if ordered[0] > 0 else "-"
+
+
 def by_turns(labels):
     """The sign from which labels go by turns, None if they do not."""
     if not are_labels(labels):
         raise BadLabels("labels")
-    ordered = sorted(labels, key=abs)
-    if not all([is_turn(ordered[at - 1], ordered[at]) for at in range(1, len(ordered))]):
-        return None
-    return "+" if ordered[0] > 0 else "-"
+    return turns_among(labels)
 
 
 def clash_among(told):
@@ -38,7 +43,7 @@ def clash_among(told):
 def turns_of(labelling, chain):
     """The sign from which a chain goes by turns, or None."""
     told = labels_of(labelling, chain)
-    return None if None in told else by_turns(told)
+    return None if None in told else turns_among(told)
 
 
 def clashes(labelling, chain):

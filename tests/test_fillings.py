@@ -49,57 +49,6 @@ def label_by_hand(filling, row):
     return most_by_hand(some) + greatest if greatest in sides["+"] else -most_by_hand(some) - greatest
 
 
-class OfTeams(Case):
-    def test_examples_that_need_no_texts(self):
-        self.examples("""
->>> duo = Teams(3, [[1, 0], (2, 0)])
->>> [duo.people, duo.teams, duo.many, Teams(teams=[(0, 2), (0, 1)], people=3) == duo]
-[3, ((0, 1), (0, 2)), 2, True]
->>> Teams(3, [(0, 3)])
-raises BadTeams('teams')
->>> Teams(3, [(0, 1), [1, 0]])
-raises BadTeams('teams')
-""", {**vars(errors), **vars(teams)})
-
-    def test_teams_and_their_people_ascend(self):
-        some = Teams(4, ([3], [3, 1], (2, 0, 1), [0]))
-        self.same([some.people, some.teams, some.many], [4, ((0,), (0, 1, 2), (1, 3), (3,)), 4])
-
-    def test_the_edges(self):
-        self.same([Teams(1, [[0]]).teams, Teams(12, [range_list(12)]).teams], [((0,),), (tuple(range(12)),)])
-        lots = [[person for person in range(12) if lot >> person & 1] for lot in range(1, 502)]
-        self.same(Teams(12, lots[:500]).many, 500)
-        self.raises(BadTeams, {"part": "teams"}, Teams, 12, lots)
-
-    def test_wrong_people_come_first(self):
-        for value in NO_INTEGERS + (0, 13, -1, 10**99, -10**99):
-            with self.subTest(value=value):
-                self.raises(BadNumber, {"part": "people"}, Teams, value, None)
-                self.raises(BadNumber, {"part": "people"}, Teams, teams=[[0]], people=value)
-
-    def test_wrong_teams(self):
-        for value in NO_LISTS + ([], ()):
-            with self.subTest(value=value):
-                self.raises(BadTeams, {"part": "teams"}, Teams, 3, value)
-                self.raises(BadTeams, {"part": "teams"}, Teams, teams=value, people=3)
-        for team in NO_LISTS + ([], (), [3], [-1], [0, 0], [True], [1.0], ["0"], [[0]], [None], [0, 1], (1, 0), [10**99]):
-            with self.subTest(team=team):
-                self.raises(BadTeams, {"part": "teams"}, Teams, 3, [(0, 1), team])
-
-    def test_equal_if_people_and_teams_are(self):
-        self.same([Teams(2, [[0]]) == Teams(2, ((0,),)), Teams(2, [[0]]) == Teams(3, [[0]]), Teams(2, [[0]]) == Teams(2, [[1]])],
-                  [True, False, False])
-        for value in (None, (2, ((0,),)), [[0]], "2 / 0", Table(1, [1])):
-            self.same([Teams(2, [[0]]) == value, value == Teams(2, [[0]])], [False, False])
-
-    def test_teams_are_copied(self):
-        told = [[1, 0]]
-        some = Teams(2, told)
-        told[0].append(7)
-        told.append([1])
-        self.same(some.teams, ((0, 1),))
-
-
 class Most(Case):
     def test_some_told_outright(self):
         some = [Teams(4, ALL_OF_FOUR), Teams(3, [(0, 1), (0, 2)]), Teams(2, [(0,), (1,)]), Teams(2, [(0, 1)])]
@@ -206,11 +155,6 @@ class Made(Case):
                    Filling(some, [1, 2]) == Filling(Teams(2, [[0], [0, 1]]), [1, 2])], [True, False, False])
         for value in (None, some, [1, 2], (some, (1, 2)), Table(1, [1])):
             self.same([Filling(some, [1, 2]) == value, value == Filling(some, [1, 2])], [False, False])
-
-
-def range_list(many):
-    """The list of the first integers, downward."""
-    return list(range(many))[::-1]
 
 
 if __name__ == "__main__":

@@ -15,12 +15,19 @@ FUNCTIONS = {
                "size_table(places)", "opposed_pair(table)", "amounts_of(table)"],
     "turns": ["by_turns(labels)", "turns_of(labelling, chain)", "clashes(labelling, chain)", "is_climb(labelling, chain)"],
     "doors": ["doors_of(labelling, chain)", "beyond(chain, index)"],
+    "walks": ["step(labelling, chain, came)", "walk_of(labelling)", "end_of(labelling)", "back_of(labelling, climb)",
+              "walked(labelling)"],
+    "climbs": ["climbs(table)", "how_many(table)", "odd_of(table)"],
+    "check_walks": ["shows_walk(labelling, value)", "shows_odd(table, value)"],
+    "teams": ["are_apart(one, other)", "apart_pairs(teams)"],
     "waves": ["most_waves(teams)"],
 }
 CLASSES = {
     "papers": {"Paper(word, *parts)": ["__init__", "__eq__"], "Denial(word, *parts)": ["__init__", "__eq__"]},
     "tables": {"Table(places, labels)": ["__init__", "__eq__", "__str__", "read"]},
-    "teams": {"Teams(people, teams)": ["__init__", "__eq__"]},
+    "walks": {"Walk(chains)": ["__init__"]},
+    "climbs": {"Odd(lone, pairs)": ["__init__"]},
+    "teams": {"Teams(people, teams)": ["__init__", "__eq__", "__str__", "read"]},
     "fillings": {"Filling(teams, rooms)": ["__init__", "__eq__"]},
 }
 
@@ -47,7 +54,9 @@ class Interface(unittest.TestCase):
                     self.assertIn(method, vars(made), each)
 
     def test_read_takes_a_text(self):
-        self.assertEqual(str(inspect.signature(importlib.import_module("roomstair.tables").Table.read)), "(text)")
+        for module, name in (("tables", "Table"), ("teams", "Teams")):
+            read = getattr(importlib.import_module("roomstair." + module), name).read
+            self.assertEqual(str(inspect.signature(read)), "(text)")
 
 
 if __name__ == "__main__":
