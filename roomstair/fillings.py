@@ -1,9 +1,10 @@
 """Fillings put each team into a room; each filling is a labelling of rows."""
 
 from roomstair.checks import is_list, is_within
-from roomstair.errors import BadFilling, BadTeams
+from roomstair.errors import BadFilling
 from roomstair.rows import first_sign, sides_of, waves
-from roomstair.teams import Teams, mask_of
+from roomstair.teams import Teams, apart_pairs, mask_of, want_parts, want_teams
+from roomstair.texts import items_of, numbers_told
 from roomstair.waves import most_waves
 
 MOST_ROOM = 500
@@ -26,19 +27,28 @@ class Filling:
     """A room for each of some teams, in the order of the teams."""
 
     def __init__(self, teams, rooms):
-        if not isinstance(teams, Teams):
-            raise BadTeams("teams")
+        want_teams(teams)
         if not are_rooms(rooms, teams.many):
             raise BadFilling("rooms")
         self.teams = teams
         self.rooms = tuple(rooms)
         self.places = teams.people
         # Kept, as each label hangs on them, and a walk asks for many labels.
-        self._most = most_waves(teams)
+        self.most = most_waves(teams)
         self._masks = tuple([mask_of(team) for team in teams.teams])
 
     def __eq__(self, other):
         return isinstance(other, Filling) and self.teams == other.teams and self.rooms == other.rooms
+
+    def __str__(self):
+        parts = [numbers_told((room, *team)) for room, team in zip(self.rooms, self.teams.teams)]
+        return " / ".join([str(self.places), *parts])
+
+    @staticmethod
+    def read(text):
+        """The Filling whose text this is."""
+        people, rooms, teams = want_parts(items_of(text), MOST_ROOM)
+        return Filling(Teams(people, teams), rooms)
 
     def label(self, row):
         """The label of a row of as many places as there are people, None if it has none."""
@@ -49,4 +59,17 @@ class Filling:
             return waves(row) if first_sign(row) == "+" else -waves(row)
         if left == right:
             return None
-        return self._most + left if left > right else -self._most - right
+        return self.most + left if left > right else -self.most - right
+
+
+def want_filling(value):
+    """Raise BadFilling("filling") for no Filling."""
+    if not isinstance(value, Filling):
+        raise BadFilling("filling")
+
+
+def clash_pairs(filling):
+    """The pairs of the numbers of two teams that are a clash, ascending."""
+    want_filling(filling)
+    rooms = filling.rooms
+    return tuple([pair for pair in apart_pairs(filling.teams) if rooms[pair[0]] == rooms[pair[1]]])

@@ -17,6 +17,11 @@ def is_turn(lesser, label):
     return abs(lesser) < abs(label) and (lesser > 0) != (label > 0)
 
 
+def by_amount(told):
+    """The indexes of labels, none lacking, ascending by their amounts."""
+    return [at for _, at in sorted([(abs(label), at) for at, label in enumerate(told)])]
+
+
 def turns_among(told):
     """The sign from which labels, one at least and none lacking, go by turns, None if they do not."""
     ordered = sorted(told, key=abs)

@@ -10,15 +10,14 @@ from roomstair.errors import BadNumber, Misfit, TooMany
 from roomstair.papers import Paper
 from roomstair.rows import opposite
 from roomstair.tables import labels_of, want_labelling
-from roomstair.turns import clash_among, is_climb, turns_among, turns_of
+from roomstair.turns import by_amount, clash_among, is_climb, turns_among, turns_of
 
 MOST_CHAINS = 2000
 
 
 def way_out(told, half, came):
     """The index of the row that the door lacks by which the walk did not come."""
-    ranked = sorted([(abs(label), at) for at, label in enumerate(told)])
-    order = [pair[1] for pair in ranked]
+    order = by_amount(told)
     if came is None:
         # The chain goes by turns: without its greatest label from the same sign, without its least one not.
         return order[-1] if half == turns_among(told) else order[0]

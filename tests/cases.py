@@ -2,6 +2,8 @@
 
 import unittest
 
+from roomstair.teams import Teams
+
 
 class Alike:
     """A value that says of itself that it is equal to any other one."""
@@ -75,3 +77,9 @@ def numbers(seed):
     while True:
         seed = (seed * 1103515245 + 12345) % 2**31
         yield seed >> 8
+
+
+def some_teams(people, many, source):
+    """Teams of up to so many lots of people."""
+    lots = [[person for person in range(people) if next(source) % 5 < 2] for _ in range(many)]
+    return Teams(people, sorted({tuple(lot) for lot in lots if lot} | {tuple(range(people))}))

@@ -20,7 +20,10 @@ FUNCTIONS = {
     "climbs": ["climbs(table)", "how_many(table)", "odd_of(table)"],
     "check_walks": ["shows_walk(labelling, value)", "shows_odd(table, value)"],
     "teams": ["are_apart(one, other)", "apart_pairs(teams)"],
-    "waves": ["most_waves(teams)"],
+    "waves": ["held(teams, row)", "is_free(teams, row)", "most_waves(teams)", "need(teams)", "freest(teams)"],
+    "orders": ["in_order(teams, order)", "best_order(teams)"],
+    "fillings": ["clash_pairs(filling)"],
+    "stairs": ["stair_in(filling, chain)", "clash_in(filling, chain)", "judged(filling)"],
 }
 CLASSES = {
     "papers": {"Paper(word, *parts)": ["__init__", "__eq__"], "Denial(word, *parts)": ["__init__", "__eq__"]},
@@ -28,7 +31,8 @@ CLASSES = {
     "walks": {"Walk(chains)": ["__init__"]},
     "climbs": {"Odd(lone, pairs)": ["__init__"]},
     "teams": {"Teams(people, teams)": ["__init__", "__eq__", "__str__", "read"]},
-    "fillings": {"Filling(teams, rooms)": ["__init__", "__eq__"]},
+    "fillings": {"Filling(teams, rooms)": ["__init__", "__eq__", "__str__", "read"]},
+    "stairs": {"Stair(steps)": ["__init__"], "Clash(one, other)": ["__init__"]},
 }
 
 
@@ -54,7 +58,7 @@ class Interface(unittest.TestCase):
                     self.assertIn(method, vars(made), each)
 
     def test_read_takes_a_text(self):
-        for module, name in (("tables", "Table"), ("teams", "Teams")):
+        for module, name in (("tables", "Table"), ("teams", "Teams"), ("fillings", "Filling")):
             read = getattr(importlib.import_module("roomstair." + module), name).read
             self.assertEqual(str(inspect.signature(read)), "(text)")
 

@@ -3,12 +3,11 @@
 import re
 import unittest
 
-from cases import NO_INTEGERS, NO_LISTS, NO_STRINGS, Case, numbers
+from cases import NO_INTEGERS, NO_LISTS, NO_STRINGS, Case, numbers, some_teams
 from roomstair import errors, teams
 from roomstair.errors import BadNumber, BadTeams, BadText
 from roomstair.tables import Table
 from roomstair.teams import Teams, apart_pairs, are_apart
-from test_fillings import some_teams
 
 LOTS = [[person for person in range(12) if lot >> person & 1] for lot in range(1, 502)]
 NO_TEAMS = NO_LISTS + ([], [[0]], (), (2, [[0]]), ((0, 1), (1, 2)), "2 / 0", Teams, Table(1, [1]))

@@ -2,7 +2,7 @@
 
 import unittest
 
-from cases import NO_INTEGERS, Case, numbers
+from cases import NO_INTEGERS, Case, numbers, some_teams
 from roomstair import chains, errors, fillings, tables, teams, walks
 from roomstair.chains import full_chains, half_of, is_full, opposite_chain
 from roomstair.doors import beyond
@@ -14,7 +14,6 @@ from roomstair.teams import Teams
 from roomstair.turns import clashes, is_climb, turns_of
 from roomstair.walks import Walk, back_of, end_of, step, walk_of, walked
 from test_chains import FULL, LONG, NO_CHAINS, NOT_FULL, chains_by_hand
-from test_fillings import some_teams
 from test_tables import NO_LABELLINGS, SHUT, TWO, any_table
 from test_turns import turns_by_hand
 
