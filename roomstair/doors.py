@@ -8,6 +8,13 @@ from roomstair.tables import labels_of, want_labelling
 from roomstair.turns import clash_among, turns_among
 
 
+def doors_among(told, half):
+    """The indexes of the labels without which those that are left go by turns from the half, ascending."""
+    if len(told) == 1:
+        return ()
+    return tuple([at for at in range(len(told)) if turns_among(told[:at] + told[at + 1:]) == half])
+
+
 def doors_of(labelling, chain):
     """The indexes of the rows without which what is left of a d-chain is a door, ascending."""
     want_labelling(labelling)
@@ -15,10 +22,7 @@ def doors_of(labelling, chain):
     told = labels_of(labelling, chain)
     if clash_among(told):
         raise Misfit("chain")
-    if len(told) == 1:
-        return ()
-    half = half_of(chain)
-    return tuple([at for at in range(len(told)) if turns_among(told[:at] + told[at + 1:]) == half])
+    return doors_among(told, half_of(chain))
 
 
 def row_beyond(chain, index):

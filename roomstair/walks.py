@@ -3,14 +3,14 @@
 A state of a walk is a triple: the chain at which it is, the labels of this, and how it came there.
 """
 
-from roomstair.chains import want_chain, want_full, with_sign
+from roomstair.chains import half_of, want_chain, want_full, with_sign
 from roomstair.checks import is_within
-from roomstair.doors import doors_of, row_beyond
+from roomstair.doors import doors_among, row_beyond
 from roomstair.errors import BadNumber, Misfit, TooMany
 from roomstair.papers import Paper
 from roomstair.rows import opposite
 from roomstair.tables import labels_of, want_labelling
-from roomstair.turns import by_amount, clash_among, is_climb, turns_among, turns_of
+from roomstair.turns import by_amount, clash_among, is_climb, turns_among
 
 MOST_CHAINS = 2000
 
@@ -63,6 +63,14 @@ def first_state(labelling):
     return (row,), (labelling.label(row),), None
 
 
+def want_way(told, half, came):
+    """Raise Misfit("came") if no walk comes so to a d-chain with these labels and this half."""
+    if came is not None and came not in doors_among(told, half):
+        raise Misfit("came")
+    if came is None and len(told) > 1 and turns_among(told) is None:
+        raise Misfit("came")
+
+
 def step(labelling, chain, came):
     """The pair of the chain to which the walk goes, and of how it comes there; None where it ends."""
     want_labelling(labelling)
@@ -71,17 +79,9 @@ def step(labelling, chain, came):
         raise BadNumber("came")
     told = labels_of(labelling, chain)
     if not clash_among(told):
-        want_way(labelling, chain, came)
+        want_way(told, half_of(chain), came)
     state = next_state(labelling, (tuple(chain), told, came))
     return None if state is None else (state[0], state[2])
-
-
-def want_way(labelling, chain, came):
-    """Raise Misfit("came") if no walk comes so to a d-chain that does not clash."""
-    if came is not None and came not in doors_of(labelling, chain):
-        raise Misfit("came")
-    if came is None and len(chain) > 1 and turns_of(labelling, chain) is None:
-        raise Misfit("came")
 
 
 def chains_from(labelling, state, back):
