@@ -38,11 +38,16 @@ def want_full(value, part):
         raise BadChain(part)
 
 
+def half_in(chain):
+    """The half of what is known to be a d-chain."""
+    last = len(chain) - 1
+    return chain[last][last]
+
+
 def half_of(chain):
     """The half of a d-chain: the sign of its last row at place d - 1."""
     want_full(chain, "chain")
-    last = len(chain) - 1
-    return chain[last][last]
+    return half_in(chain)
 
 
 def new_place(elder, row):

@@ -1,6 +1,6 @@
 """The doors of d-chains, and the d-chains beyond these."""
 
-from roomstair.chains import half_of, want_full
+from roomstair.chains import half_in, want_full
 from roomstair.checks import is_within
 from roomstair.errors import BadNumber, Misfit
 from roomstair.rows import OPPOSITES
@@ -22,7 +22,7 @@ def doors_of(labelling, chain):
     told = labels_of(labelling, chain)
     if clash_among(told):
         raise Misfit("chain")
-    return doors_among(told, half_of(chain))
+    return doors_among(told, half_in(chain))
 
 
 def row_beyond(chain, index):

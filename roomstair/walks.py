@@ -3,7 +3,7 @@
 A state of a walk is a triple: the chain at which it is, the labels of this, and how it came there.
 """
 
-from roomstair.chains import half_of, want_chain, want_full, with_sign
+from roomstair.chains import half_in, want_chain, want_full, with_sign
 from roomstair.checks import is_within
 from roomstair.doors import doors_among, row_beyond
 from roomstair.errors import BadNumber, Misfit, TooMany
@@ -46,7 +46,7 @@ def next_state(labelling, state):
     turns = turns_among(told)
     if turns is not None and (came is not None or many == 1):
         return None if many == labelling.places else upward(labelling, state, turns)
-    index = way_out(told, chain[-1][many - 1], came)
+    index = way_out(told, half_in(chain), came)
     row = row_beyond(chain, index)
     if row is None:
         return chain[:-1], told[:-1], None
@@ -67,7 +67,8 @@ def want_way(told, half, came):
     """Raise Misfit("came") if no walk comes so to a d-chain with these labels and this half."""
     if came is not None and came not in doors_among(told, half):
         raise Misfit("came")
-    if came is None and len(told) > 1 and turns_among(told) is None:
+    # A 1-chain always goes by turns: there None is the beginning.
+    if came is None and turns_among(told) is None:
         raise Misfit("came")
 
 
@@ -79,7 +80,7 @@ def step(labelling, chain, came):
         raise BadNumber("came")
     told = labels_of(labelling, chain)
     if not clash_among(told):
-        want_way(told, half_of(chain), came)
+        want_way(told, half_in(chain), came)
     state = next_state(labelling, (tuple(chain), told, came))
     return None if state is None else (state[0], state[2])
 

@@ -171,7 +171,7 @@ class OddOnes(Case):
             with self.subTest(value=value):
                 self.same([shows_odd(MANY, value), shows_odd(value=value, table=MANY)], [False, False])
                 self.same([shows_odd(MANY, Odd(value, told.pairs)), shows_odd(MANY, Odd(told.lone, value))], [False, False])
-        for value in STRANGE + (0, "", "+", (), ((),), ((), ()), (("+00",), 1), (1, 2), ("+", "-"), (None, None)):
+        for value in STRANGE + (0, "", "+", (), ((),), ((), ()), (("+00",), 1), (1, ("+00",)), ((None,), ("+",)), (1, 2), ("+", "-"), (None, None)):
             with self.subTest(value=value):
                 self.same(shows_odd(MANY, Odd(told.lone, [value])), False)
                 self.same(shows_odd(wave_table(2), Odd(("0+", "-+"), [value])), False)
