@@ -24,6 +24,11 @@ FUNCTIONS = {
     "orders": ["in_order(teams, order)", "best_order(teams)"],
     "fillings": ["clash_pairs(filling)"],
     "stairs": ["stair_in(filling, chain)", "clash_in(filling, chain)", "judged(filling)"],
+    "check_stairs": ["shows_filling(filling, value)"],
+    "lots": ["all_teams(people, size)", "spread_teams(people, size)", "plain_filling(people, size)"],
+    "fewest": ["fewest_rooms(teams)", "fewest_filling(teams)"],
+    "webs": ["are_tied(web, one, other)", "web_of(teams)", "people_in(web)", "team_of(web, point)", "teams_of(web)",
+             "fewest_hues(web)"],
 }
 CLASSES = {
     "papers": {"Paper(word, *parts)": ["__init__", "__eq__"], "Denial(word, *parts)": ["__init__", "__eq__"]},
@@ -33,6 +38,7 @@ CLASSES = {
     "teams": {"Teams(people, teams)": ["__init__", "__eq__", "__str__", "read"]},
     "fillings": {"Filling(teams, rooms)": ["__init__", "__eq__", "__str__", "read"]},
     "stairs": {"Stair(steps)": ["__init__"], "Clash(one, other)": ["__init__"]},
+    "webs": {"Web(points, ties)": ["__init__", "__eq__"]},
 }
 
 
