@@ -47,7 +47,7 @@ class Filling:
     @staticmethod
     def read(text):
         """The Filling whose text this is."""
-        people, rooms, teams = want_parts(items_of(text), MOST_ROOM)
+        people, rooms, teams = want_parts(items_of(text), 0, MOST_ROOM)
         return Filling(Teams(people, teams), rooms)
 
     def label(self, row):

@@ -16,13 +16,17 @@ def is_order(value, many):
     return are_unlike(value, 0, many - 1) and len(value) == many
 
 
+def team_in_order(team, order):
+    """A team in an order, ascending: the person order[i] becomes i."""
+    return tuple(sorted([order.index(person) for person in team]))
+
+
 def in_order(teams, order):
-    """The Teams in an order: the person order[i] becomes i."""
+    """The Teams in an order."""
     want_teams(teams)
     if not is_order(order, teams.people):
         raise BadOrder("order")
-    numbers = {person: number for number, person in enumerate(order)}
-    return Teams(teams.people, [[numbers[person] for person in team] for team in teams.teams])
+    return Teams(teams.people, [team_in_order(team, order) for team in teams.teams])
 
 
 def best_order(teams):

@@ -59,17 +59,21 @@ class Table:
     @staticmethod
     def read(text):
         """The Table whose text this is."""
-        items = items_of(text)
-        places = want_integer(items, 0, 1, MOST_LISTED)
-        want_word(items, 1, "/")
-        end = 2 + len(told_rows(places))
-        labels = [want_label(items, at) for at in range(2, end)]
-        want_end(items, end)
-        return Table(places, labels)
+        return table_from(items_of(text), 0)
 
     def label(self, row):
         """The label of a row of as many places."""
         return self._by_row[row]
+
+
+def table_from(items, start):
+    """The Table whose text the items from an index on are."""
+    places = want_integer(items, start, 1, MOST_LISTED)
+    want_word(items, start + 1, "/")
+    end = start + 2 + len(told_rows(places))
+    labels = [want_label(items, at) for at in range(start + 2, end)]
+    want_end(items, end)
+    return Table(places, labels)
 
 
 def want_labelling(value):

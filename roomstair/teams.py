@@ -37,12 +37,12 @@ def want_team(items, at, people):
     return team
 
 
-def want_parts(items, most_room):
-    """The people, the rooms and the teams of a text; without rooms if most_room is None."""
-    people = want_integer(items, 0, 1, MOST_PEOPLE)
+def want_parts(items, start, most_room):
+    """The people, the rooms and the teams of the text from an index on; without rooms if most_room is None."""
+    people = want_integer(items, start, 1, MOST_PEOPLE)
     rooms = []
     teams = []
-    at = 1
+    at = start + 1
     while at < len(items) or not teams:
         want_word(items, at, "/")
         if len(teams) == MOST_TEAMS:
@@ -80,14 +80,19 @@ class Teams:
     @staticmethod
     def read(text):
         """The Teams whose text this is."""
-        people, _, teams = want_parts(items_of(text), None)
-        return Teams(people, teams)
+        return teams_from(items_of(text), 0)
 
 
-def want_teams(value):
-    """Raise BadTeams("teams") for no Teams."""
+def teams_from(items, start):
+    """The Teams whose text the items from an index on are."""
+    people, _, teams = want_parts(items, start, None)
+    return Teams(people, teams)
+
+
+def want_teams(value, part="teams"):
+    """Raise BadTeams(part) for no Teams."""
     if not isinstance(value, Teams):
-        raise BadTeams("teams")
+        raise BadTeams(part)
 
 
 def are_apart(one, other):

@@ -32,6 +32,11 @@ def numbers_told(numbers):
     return " ".join([str(number) for number in numbers])
 
 
+def told_or_dash(value):
+    """A value as an item of an answer, - for None."""
+    return "-" if value is None else str(value)
+
+
 def want_integer(items, at, least, most):
     """The integer from least to most that stands at an index."""
     # The items ahead stand: so at is the number of items if this one is missing.

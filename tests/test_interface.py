@@ -29,6 +29,10 @@ FUNCTIONS = {
     "fewest": ["fewest_rooms(teams)", "fewest_filling(teams)"],
     "webs": ["are_tied(web, one, other)", "web_of(teams)", "people_in(web)", "team_of(web, point)", "teams_of(web)",
              "fewest_hues(web)"],
+    "hues": ["need_in(web, order)", "judged_hues(web, hues, order)", "shows_hues(web, hues, order, value)"],
+    "changes": ["opposite_table(table)", "permuted(table, order)", "flipped(table, place)", "with_team(teams, team)", "without_team(teams, team)",
+                "with_person(teams)", "joined(one, other)"],
+    "pictures": ["row_picture(row)", "chain_picture(labelling, chain)", "filling_picture(filling)"],
 }
 CLASSES = {
     "papers": {"Paper(word, *parts)": ["__init__", "__eq__"], "Denial(word, *parts)": ["__init__", "__eq__"]},
@@ -39,6 +43,8 @@ CLASSES = {
     "fillings": {"Filling(teams, rooms)": ["__init__", "__eq__", "__str__", "read"]},
     "stairs": {"Stair(steps)": ["__init__"], "Clash(one, other)": ["__init__"]},
     "webs": {"Web(points, ties)": ["__init__", "__eq__"]},
+    "hues": {"Piece(hues, points)": ["__init__"], "Same(one, other)": ["__init__"]},
+    "desk": {"Desk()": ["__init__", "__eq__", "told", "back"]},
 }
 
 
@@ -67,6 +73,10 @@ class Interface(unittest.TestCase):
         for module, name in (("tables", "Table"), ("teams", "Teams"), ("fillings", "Filling")):
             read = getattr(importlib.import_module("roomstair." + module), name).read
             self.assertEqual(str(inspect.signature(read)), "(text)")
+
+    def test_told_takes_a_line_and_back_nothing(self):
+        desk = importlib.import_module("roomstair.desk").Desk()
+        self.assertEqual([str(inspect.signature(desk.told)), str(inspect.signature(desk.back))], ["(line)", "()"])
 
 
 if __name__ == "__main__":

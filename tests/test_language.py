@@ -65,7 +65,15 @@ class Language(unittest.TestCase):
             for node in tree.body[1:]:
                 self.assertIsInstance(node, (ast.ImportFrom, ast.FunctionDef, ast.ClassDef, ast.Assign), name)
                 if isinstance(node, ast.Assign):
-                    ast.literal_eval(node.value)
+                    self.look_at_value(node, [each.name for each in functions(tree) if each.end_lineno < node.lineno])
+
+    def look_at_value(self, node, known):
+        """See that a module-level name is assigned a plain value, or a dict of functions that are defined above."""
+        if isinstance(node.value, ast.Dict) and all(isinstance(each, ast.Name) for each in node.value.values):
+            self.assertEqual({each.id for each in node.value.values} - set(known), set())
+            self.assertTrue(all(isinstance(each, ast.Constant) for each in node.value.keys))
+        else:
+            ast.literal_eval(node.value)
 
     def test_imports_are_from_the_package_alone_and_in_no_ring(self):
         imported = {name: [node.module for node in tree.body if isinstance(node, ast.ImportFrom)] for name, tree in trees()}

@@ -4,7 +4,22 @@ import unittest
 
 from cases import Case
 from roomstair import papers
+from roomstair.climbs import Odd
+from roomstair.hues import Piece, Same
 from roomstair.papers import Denial, Paper, fixed
+from roomstair.stairs import Clash, Stair
+from roomstair.walks import Walk
+
+# All classes of papers, with their words, their base and their parameters.
+CLASSES = {
+    Walk: ("walk", Paper, ["chains"]),
+    Odd: ("odd", Paper, ["lone", "pairs"]),
+    Stair: ("stair", Paper, ["steps"]),
+    Clash: ("clash", Denial, ["one", "other"]),
+    Piece: ("piece", Paper, ["hues", "points"]),
+    Same: ("same", Denial, ["one", "other"]),
+}
+VALUES = (None, True, 0, -7, 1.5, "", "+0", b"x", [], [1, [2, (3, [4, []])]], ([1],), {"a": [1]}, {0: [[]]}, [{"a": [1]}], {1}, [[[[["x"]]]]])
 
 
 class Note(Paper):
@@ -99,6 +114,50 @@ class Papers(Case):
             self.assertEqual(sorted(vars(made("a", 1))), ["parts", "word"])
             for name in ("__init__", "__eq__", "__bool__"):
                 self.assertIn(name, vars(made))
+
+
+class AllClasses(Case):
+    def test_made_by_place_and_by_name_with_any_values(self):
+        for made, (word, base, names) in CLASSES.items():
+            for at, value in enumerate(VALUES):
+                told = [VALUES[(at + 5 * number) % len(VALUES)] for number in range(len(names))]
+                for paper in (made(*told), made(**dict(reversed(list(zip(names, told)))))):
+                    with self.subTest(made=made, told=told):
+                        self.same([paper.word, paper.parts], [word, tuple(fixed(each) for each in told)])
+                        self.same([getattr(paper, name) for name in names], [fixed(each) for each in told])
+                        self.same([bool(paper), type(paper) is made, isinstance(paper, base)], [base is Paper, True, True])
+
+    def test_which_are_below_which(self):
+        self.assertEqual({made: made.__bases__ for made in CLASSES}, {made: (base,) for made, (_, base, _) in CLASSES.items()})
+        self.assertEqual([set(Denial.__subclasses__()), Denial.__bases__], [{Clash, Same}, (Paper,)])
+        own = [made for made in Paper.__subclasses__() if made.__module__.startswith("roomstair.")]
+        self.assertEqual(set(own), {Denial, Walk, Odd, Stair, Piece})
+
+    def test_equal_if_class_and_parts_are(self):
+        for made, (word, base, names) in CLASSES.items():
+            for value in VALUES:
+                for other in VALUES:
+                    told, changed = [value] * len(names), [value] * (len(names) - 1) + [other]
+                    self.same([made(*told) == made(*changed), made(*told) != made(*changed)], [fixed(value) == fixed(other), fixed(value) != fixed(other)])
+            self.same([made(*[[1, [2]]] * len(names)) == made(*[(1, (2,))] * len(names)), made(*names) == base(word, *names), base(word, *names) == made(*names)],
+                      [True, False, False])
+
+    def test_papers_of_unlike_classes_are_not_equal(self):
+        for one, (word, _, names) in CLASSES.items():
+            for other, (_, _, others) in CLASSES.items():
+                if one is not other:
+                    self.same([one(*[1] * len(names)) == other(*[1] * len(others)), other(*[1] * len(others)) == one(*[1] * len(names))], [False, False])
+            for value in (None, True, False, 1, word, (1,), (word, 1), [], object(), one):
+                self.same([one(*[1] * len(names)) == value, value == one(*[1] * len(names))], [False, False])
+
+    def test_what_is_passed_may_change_afterwards(self):
+        for made, (_, _, names) in CLASSES.items():
+            told = [[[1], [2]] for _ in names]
+            paper = made(*told)
+            for each in told:
+                each[0].append(3)
+                each.append(4)
+            self.same(paper.parts, (((1,), (2,)),) * len(names))
 
 
 if __name__ == "__main__":

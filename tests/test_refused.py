@@ -4,8 +4,8 @@ import itertools
 import unittest
 
 from cases import NO_LISTS, STRANGE, Case
-from roomstair import (chains, check_stairs, check_walks, climbs, doors, errors, fewest, fillings, lots, orders, rows, stairs, tables,
-                       teams, turns, walks, waves, webs)
+from roomstair import (changes, chains, check_stairs, check_walks, climbs, doors, errors, fewest, fillings, hues, lots, orders, pictures, rows,
+                       stairs, tables, teams, turns, walks, waves, webs)
 from roomstair.errors import Misfit, TooMany
 from roomstair.fillings import Filling
 from roomstair.stairs import Stair
@@ -43,6 +43,7 @@ KINDS = {
     "rooms": ("BadFilling", NO_LISTS + ([], [1], [0, 1], [1, 501], [1, True], [1, 2, 3])),
     "sides": ("BadRow", NO_LISTS + ([12], [0, 0], [True], [-1])),
     "steps": ("BadChain", NO_LISTS + ([], [(1, "+")], [(0, "0")], [(0, "+"), (0, "-")])),
+    "hues": ("BadWeb", NO_LISTS + ([], [1, 2, 1], [0, 1, 2, 1], [1, 2, 1, 501], [1, 2, 1, True])),
     "told": ("BadTable", NO_LISTS + ([], [0] * 4, [1, 2, 1], [1, 2, 1, 1001])),
 }
 # The parameters of each call, in order: name, kind, and a right value.
@@ -112,6 +113,19 @@ CALLS = {
     webs.team_of: [("web", "web", RING), ("point", "number", 0)],
     webs.teams_of: [("web", "web", RING)],
     webs.fewest_hues: [("web", "web", RING)],
+    hues.need_in: [("web", "web", RING), ("order", "people", [5, 0, 1, 2, 3, 4])],
+    hues.judged_hues: [("web", "web", RING), ("hues", "hues", [1, 2, 1, 2]), ("order", "people", [5, 0, 1, 2, 3, 4])],
+    hues.shows_hues: [("web", "web", RING), ("hues", "hues", [1, 2, 1, 2]), ("order", "people", [5, 0, 1, 2, 3, 4]), ("value", None, Stair([]))],
+    changes.opposite_table: [("table", "table", TWO)],
+    changes.permuted: [("table", "table", TWO), ("order", "people", [1, 0])],
+    changes.flipped: [("table", "table", TWO), ("place", "number", 0)],
+    changes.with_team: [("teams", "teams", DUO), ("team", "team", [1, 0])],
+    changes.without_team: [("teams", "teams", DUO), ("team", "team", [1])],
+    changes.with_person: [("teams", "teams", DUO)],
+    changes.joined: [("one", "teams", DUO), ("other", "teams", DUO)],
+    pictures.row_picture: [("row", "row", "+0")],
+    pictures.chain_picture: [("labelling", "labelling", SHUT), ("chain", "chain", ["0+", "-+"])],
+    pictures.filling_picture: [("filling", "filling", GOOD)],
 }
 
 
@@ -162,6 +176,9 @@ class Refused(Case):
             ("BadChain", "climb", walks.back_of, {"labelling": TWO, "climb": ["+00", "+0"]}),
             ("BadNumber", "other", webs.are_tied, {"web": RING, "one": 0, "other": 4}),
             ("BadNumber", "size", lots.all_teams, {"people": 12, "size": 13}),
+            ("BadOrder", "order", hues.need_in, {"web": Web(60, []), "order": [0]}),
+            ("BadTeams", "team", changes.without_team, {"teams": Teams(2, [[0]]), "team": [2]}),
+            ("BadChain", "chain", pictures.chain_picture, {"labelling": TWO, "chain": ["+00", "+00"]}),
         ):
             self.refuses(getattr(errors, error), {"part": part}, call, named)
 

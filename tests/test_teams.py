@@ -38,10 +38,12 @@ def wrong_item(text, rooms=False):
     return None if found == sorted(found) and len(set(map(tuple, found))) == len(found) else len(items) - 1
 
 
-def changed_texts(text):
+ODD_ITEMS = ("", "0", "1", "2", "+1", "01", "-0", "-1", "/", "//", "x", "11", "12", "13", "500", "501", "1000", "\u0661", "\u00b2", "\uff11", "1\n",
+             "1.", "1_0", "0x1", "9" * 5000, "\\")
+
+
+def changed_texts(text, odd=ODD_ITEMS):
     """Texts with an item exchanged, put in, left out, doubled, two exchanged, cut off, with two blanks."""
-    odd = ("", "0", "1", "2", "+1", "01", "-0", "-1", "/", "//", "x", "11", "12", "13", "500", "501", "1000", "\u0661", "\u00b2", "\uff11", "1\n",
-           "1.", "1_0", "0x1", "9" * 5000, "\\")
     items = text.split(" ")
     for at in range(len(items) + 1):
         changed = [items[:at], items[:at] + items[at + 1:], items[:at + 1] + items[at:], items[:at] + items[at + 1:at + 2] + items[at:at + 1] + items[at + 2:]]
