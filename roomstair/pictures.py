@@ -26,7 +26,7 @@ def chain_picture(labelling, chain):
 def filling_picture(filling):
     """For each room in which there is a team the room, and the teams in it."""
     want_filling(filling)
-    inside = {room: [] for room in sorted(set(filling.rooms))}
-    for room, team in zip(filling.rooms, filling.teams.teams):
-        inside[room].append(numbers_told(team))
-    return tuple([f"{room} : " + " / ".join(teams) for room, teams in inside.items()])
+    inside = {}
+    for room, team in sorted(zip(filling.rooms, filling.teams.teams)):
+        inside.setdefault(room, []).append(numbers_told(team))
+    return tuple([f"{each} : " + " / ".join(inside[each]) for each in inside])

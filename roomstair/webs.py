@@ -90,6 +90,12 @@ def untied_pairs(web):
     return [(one, other) for one in points for other in range(one + 1, web.points) if not is_near(web, one, other)]
 
 
+def team_told(own, point, lot):
+    """The team of a point, by the points that have own people, and by the numbers of its pairs."""
+    first = [own.index(point)] if point in own else []
+    return tuple(first + [len(own) + number for number in lot])
+
+
 def teams_by_point(web):
     """The pair of how many people a web has, and of the list of the teams of its points."""
     pairs = untied_pairs(web)
@@ -98,11 +104,7 @@ def teams_by_point(web):
         lots[one].append(number)
         lots[other].append(number)
     own = [point for point, lot in enumerate(lots) if not lot or lots.count(lot) > 1]
-    teams = []
-    for point, lot in enumerate(lots):
-        first = [own.index(point)] if point in own else []
-        teams.append(tuple(first + [len(own) + number for number in lot]))
-    return len(own) + len(pairs), teams
+    return len(own) + len(pairs), [team_told(own, point, lot) for point, lot in enumerate(lots)]
 
 
 def people_in(web):
